@@ -1,0 +1,77 @@
+package link_test
+
+import (
+	"slices"
+	"testing"
+
+	"floodgate/api"
+	"floodgate/link"
+)
+
+// lastFirst is a queue that picks the one that came last; it writes down how often it rested.
+func lastFirst(rested *int) link.Queue {
+	var waiting []int
+	return link.Rule{
+		Comes: func(number int) { waiting = append(waiting, number) },
+		Picks: func() int {
+			last := len(waiting) - 1
+			number := waiting[last]
+			waiting = waiting[:last]
+			return number
+		},
+		Rests: func() int {
+			if len(waiting) == 0 {
+				*rested++
+			}
+			return len(waiting)
+		},
+	}
+}
+
+// told is what was sent: number, From and To of each.
+func told(l []api.Sent) [][3]int {
+	var out [][3]int
+	for _, x := range l {
+		out = append(out, [3]int{x.Packet, x.From, x.To})
+	}
+	return out
+}
+
+// P30, of any rule: one at a time, whole, and never idle while one waits.
+func TestSend(t *testing.T) {
+	p := []api.Packet{
+		{Size: 2, At: 3}, {Size: 1, At: 3}, // of one tick
+		{Size: 5, At: 9},                     // just when the link is free
+		{Size: 1, At: 10}, {Size: 2, At: 11}, // while that is sent
+		{Size: 1, At: 50}, // behind an idle time
+	}
+	want := [][3]int{{1, 3, 5}, {0, 5, 9}, {2, 9, 19}, {4, 19, 23}, {3, 23, 25}, {5, 50, 52}}
+	rested := 0
+	if l := link.Send(p, 2, lastFirst(&rested)); !slices.Equal(told(l), want) {
+		t.Error(l)
+	}
+	if rested != 3 { // ahead of the first, while idle, behind all
+		t.Error(rested)
+	}
+	if l := link.Send(nil, 2, lastFirst(&rested)); len(l) != 0 {
+		t.Error(l)
+	}
+}
+
+// P30: packets ahead of the link.
+func TestCheck(t *testing.T) {
+	one := []api.Packet{{Size: 1}}
+	for _, per := range []int{1, 2, api.MaxPer} {
+		if err := link.Check(one, per); err != nil {
+			t.Error(per, err)
+		}
+	}
+	for _, per := range []int{0, -1, api.MaxPer + 1} {
+		if err := link.Check(one, per); err != api.ErrBound {
+			t.Error(per, err)
+		}
+		if f, ok := link.Check([]api.Packet{{}}, per).(*api.Fault); !ok || f.At != 0 || f.Err != api.ErrBound {
+			t.Error(per, f)
+		}
+	}
+}
