@@ -43,6 +43,19 @@ func Check(p []api.Packet, per int) error {
 	return nil
 }
 
+// CheckNumbers of a rule, one for each flow: is tells whether one is well.
+func CheckNumbers(numbers []int, is func(n int) bool) error {
+	if len(numbers) != api.MaxFlows {
+		return api.ErrShape
+	}
+	for _, n := range numbers {
+		if !is(n) {
+			return api.ErrBound
+		}
+	}
+	return nil
+}
+
 // Send packets that were checked, as an empty queue picks them.
 func Send(p []api.Packet, per int, q Queue) []api.Sent {
 	var out []api.Sent

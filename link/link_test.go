@@ -75,3 +75,24 @@ func TestCheck(t *testing.T) {
 		}
 	}
 }
+
+// P40, P41, and of all that have a number for each flow: how many, and only then which ones.
+func TestCheckNumbers(t *testing.T) {
+	is := func(n int) bool { return n == 1 || n == 4 }
+	for _, c := range []struct {
+		numbers []int
+		want    error
+	}{
+		{[]int{1, 4, 1, 4, 1, 1, 1, 4}, nil},
+		{nil, api.ErrShape},
+		{[]int{1, 1, 1, 1, 1, 1, 1}, api.ErrShape},
+		{[]int{1, 1, 1, 1, 1, 1, 1, 1, 1}, api.ErrShape},
+		{[]int{2, 1, 1, 1, 1, 1, 1, 1, 1}, api.ErrShape},
+		{[]int{2, 1, 1, 1, 1, 1, 1, 1}, api.ErrBound},
+		{[]int{1, 1, 1, 1, 1, 1, 1, 0}, api.ErrBound},
+	} {
+		if err := link.CheckNumbers(c.numbers, is); err != c.want {
+			t.Error(c.numbers, err)
+		}
+	}
+}
