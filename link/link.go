@@ -2,6 +2,8 @@
 package link
 
 import (
+	"slices"
+
 	"floodgate/api"
 	"floodgate/bucket"
 )
@@ -54,6 +56,18 @@ func CheckNumbers(numbers []int, is func(n int) bool) error {
 		}
 	}
 	return nil
+}
+
+// TakeLeast takes out of those that wait (one at least) the one for which measure tells the least number, of these the first; it changes the list in place. Those that are left stay in their order.
+func TakeLeast(waiting []int, measure func(number int) int) (number int, left []int) {
+	first := 0
+	for i, other := range waiting {
+		if measure(other) < measure(waiting[first]) {
+			first = i
+		}
+	}
+	number = waiting[first]
+	return number, slices.Delete(waiting, first, first+1)
 }
 
 // Send packets that were checked, as an empty queue picks them.

@@ -96,3 +96,23 @@ func TestCheckNumbers(t *testing.T) {
 		}
 	}
 }
+
+// P40, P41, P60: the least one, of these the first; the others stay in order.
+func TestTakeLeast(t *testing.T) {
+	measure := func(number int) int { return number % 10 }
+	for _, c := range []struct {
+		waiting []int
+		want    int
+		left    []int
+	}{
+		{[]int{7}, 7, nil},
+		{[]int{31, 12, 23}, 31, []int{12, 23}},
+		{[]int{33, 21, 12}, 21, []int{33, 12}},
+		{[]int{33, 22, 11}, 11, []int{33, 22}},
+		{[]int{4, 32, 12, 22, 3}, 32, []int{4, 12, 22, 3}},
+	} {
+		if number, left := link.TakeLeast(slices.Clone(c.waiting), measure); number != c.want || !slices.Equal(left, c.left) {
+			t.Error(c.waiting, number, left)
+		}
+	}
+}
