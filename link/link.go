@@ -45,6 +45,9 @@ func Check(p []api.Packet, per int) error {
 	return nil
 }
 
+// IsFlow tells whether there is a flow of this number.
+func IsFlow(n int) bool { return n >= 0 && n < api.MaxFlows }
+
 // CheckNumbers of a rule, one for each flow: is tells whether one is well.
 func CheckNumbers(numbers []int, is func(n int) bool) error {
 	if len(numbers) != api.MaxFlows {

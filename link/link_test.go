@@ -1,6 +1,7 @@
 package link_test
 
 import (
+	"math"
 	"slices"
 	"testing"
 
@@ -72,6 +73,20 @@ func TestCheck(t *testing.T) {
 		}
 		if f, ok := link.Check([]api.Packet{{}}, per).(*api.Fault); !ok || f.At != 0 || f.Err != api.ErrBound {
 			t.Error(per, f)
+		}
+	}
+}
+
+// P51, P71: the numbers of flows.
+func TestIsFlow(t *testing.T) {
+	for flow := range api.MaxFlows {
+		if !link.IsFlow(flow) {
+			t.Error(flow)
+		}
+	}
+	for _, n := range []int{-1, api.MaxFlows, math.MinInt, math.MaxInt} {
+		if link.IsFlow(n) {
+			t.Error(n)
 		}
 	}
 }

@@ -35,7 +35,7 @@ func checkSpread(p []api.Packet, l []api.Sent, quanta []int, a, b int) error {
 	if err := link.CheckNumbers(quanta, isQuantum); err != nil {
 		return err
 	}
-	if !isFlow(a) || !isFlow(b) {
+	if !link.IsFlow(a) || !link.IsFlow(b) {
 		return api.ErrBound
 	}
 	if err := bucket.Check(p); err != nil {
@@ -44,8 +44,6 @@ func checkSpread(p []api.Packet, l []api.Sent, quanta []int, a, b int) error {
 	_, err := fifo.Delays(p, l)
 	return err
 }
-
-func isFlow(n int) bool { return n >= 0 && n < api.MaxFlows }
 
 // lead that flow a gets over flow b by this packet. (A flow has none over itself.)
 func lead(x api.Packet, quanta []int, a, b int) int {
