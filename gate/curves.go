@@ -1,11 +1,11 @@
 package gate
 
 import (
-	"errors"
 	"slices"
 
 	"floodgate/api"
 	"floodgate/curve"
+	"floodgate/fault"
 )
 
 func checkCurves(curves [][]api.Line) error {
@@ -17,7 +17,7 @@ func checkCurves(curves [][]api.Line) error {
 			continue
 		}
 		if err := curve.Check(l); err != nil {
-			return &api.Fault{At: flow, Err: bare(err)}
+			return fault.At(flow, err)
 		}
 	}
 	return nil
@@ -43,12 +43,3 @@ func together(curves [][]api.Line) ([]api.Line, error) {
 }
 
 func isEmpty(l []api.Line) bool { return len(l) == 0 }
-
-// bare error, its place aside.
-func bare(err error) error {
-	var f *api.Fault
-	if errors.As(err, &f) {
-		return f.Err
-	}
-	return err
-}
